@@ -87,3 +87,13 @@ func meaning(word uint32) (named, bool) {
 	}
 	return named{}, false
 }
+
+// goesOnBehind is whether one may come from such a word to what is behind it
+// (and, if it jumps, behind the word that follows it).
+func (in named) goesOnBehind() bool {
+	switch in.name {
+	case "break", "j", "jr":
+		return false
+	}
+	return true
+}

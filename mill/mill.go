@@ -69,7 +69,19 @@ func reasonOf(given any) Errno {
 }
 
 // Disasm lists an image (P5).
-func Disasm(image string, entry int) (string, Errno) { return "", OK }
+func Disasm(image string, entry int) (string, Errno) {
+	if len(image) > maxImage {
+		return "", ErrLong
+	}
+	if len(image)%4 != 0 {
+		return "", ErrArg
+	}
+	l := newListing(image)
+	l.follow(entry)
+	l.tellWords()
+	l.placeLabels()
+	return l.text(), OK
+}
 
 // Run runs an image (P7, P8).
 func Run(image string, fuel int) (State, Errno) { return State{}, OK }

@@ -64,3 +64,13 @@ func (f field) takes(number int64) bool {
 func (f field) put(number int64) uint32 {
 	return uint32(number) << f.lowest & f.bits()
 }
+
+// get is the number that stands in the field of a word. Where numbers below 0
+// may stand, the field's highest bit is their sign.
+func (f field) get(word uint32) int64 {
+	number := int64(word & f.bits() >> f.lowest)
+	if number > f.most {
+		number -= 1 << f.width
+	}
+	return number
+}

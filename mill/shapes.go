@@ -82,3 +82,25 @@ func going(s shape, from, to int) uint32 {
 	}
 	return 0
 }
+
+// goal is where a word at a place goes, if it says so itself: jr and jalr
+// leave that to a register.
+func goal(s shape, place int, word uint32) (int, bool) {
+	switch s.(type) {
+	case jumpToPlace:
+		return 4 * int(word&goingBits(s)), true
+	case branchOnTwo, branchOnOne, branchOnSign:
+		return place + 4 + 4*int(int16(word&goingBits(s))), true
+	}
+	return 0, false
+}
+
+// jumps is whether words of a shape have the word that follows them done
+// ahead of where they go.
+func jumps(s shape) bool {
+	switch s.(type) {
+	case jumpToRegister, linkToRegister, jumpToPlace, branchOnTwo, branchOnOne, branchOnSign:
+		return true
+	}
+	return false
+}
