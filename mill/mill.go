@@ -26,11 +26,13 @@ const (
 	Slot     int = 6
 )
 
-// Limits, in bytes.
+// Limits, in bytes, and in words that are done.
 const (
-	maxText  = 2000
-	maxImage = 256
-	maxLabel = 8
+	maxText    = 2000
+	maxImage   = 256
+	maxLabel   = 8
+	memorySize = 1024
+	maxFuel    = 2000
 )
 
 // State is that of the machine when it has ended.
@@ -84,4 +86,14 @@ func Disasm(image string, entry int) (string, Errno) {
 }
 
 // Run runs an image (P7, P8).
-func Run(image string, fuel int) (State, Errno) { return State{}, OK }
+func Run(image string, fuel int) (State, Errno) {
+	if len(image) > maxImage {
+		return State{}, ErrLong
+	}
+	if fuel < 0 || fuel > maxFuel {
+		return State{}, ErrArg
+	}
+	m := newMachine(image)
+	end := m.run(fuel)
+	return m.state(end), OK
+}
